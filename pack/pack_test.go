@@ -115,8 +115,8 @@ func TestWriterSharesNothing(t *testing.T) {
 	var w Writer
 	raw, text := []byte("raw"), []byte("text")
 	w.Raw(raw)
-	w.Text(text)
 	clear(raw)
+	w.Text(text)
 	clear(text)
 	const want = "raw\x00\x00\x00\x04text"
 	first := w.Bytes()
