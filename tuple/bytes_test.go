@@ -162,8 +162,8 @@ func alike(t *testing.T, b []byte) {
 	}
 }
 
-// Promise 6.2: all bytes up to two, and all of up to seven of a few kinds.
-func TestGetOfAllShortBytes(t *testing.T) {
+// Promise 6.2: all of one and of two bytes; behind a few beginnings all of bytes below 8, up to seven in all.
+func TestGetOfShortBytes(t *testing.T) {
 	for a := range 256 {
 		alike(t, []byte{byte(a)})
 		for b := range 256 {
